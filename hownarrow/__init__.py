@@ -1,0 +1,1 @@
+"""Hownarrow: billiards on tables of squares, all shots at once."""
