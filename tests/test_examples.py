@@ -1,0 +1,133 @@
+"""The examples of DOC.md for the files that are written, as they stand there."""
+
+import doctest
+import os
+import re
+import unittest
+
+README = os.path.join(os.path.dirname(os.path.dirname(os.path.abspath(__file__))), "README.md")
+
+FORMS_AND_SLOPES = r'''
+>>> from hownarrow.forms import corners_at, is_end, is_label, is_picture, is_range, is_slope, is_table, is_wish
+>>> from hownarrow.slopes import added, are_neighbours, less_steep, lies_in, simpler, simplest_first, slopes_between, slopes_up_to
+>>> pockets = (((0, 0, 0), "a"), ((0, 0, 1), "b"), ((0, 1, 0), "c"), ((0, 1, 1), "d"))
+>>> bare = (1, 1, (None,), (None,), (), ())
+>>> [is_table((1, 1, (None,), (None,), (), pockets)), is_table(bare), is_table((1, 1, (0,), (None,), (), pockets))]
+[True, True, False]
+>>> corners_at((0,), (None,), (0, 1, 0))
+((0, 0, 0), (0, 1, 0))
+>>> [corners_at((1, None), (None, 0), (0, 0, 0)), is_label(bare, (0, 1, 0, 0)), is_label(bare, (0, 1, 0, 1))]
+[((0, 0, 0), (0, 1, 1), (1, 0, 1)), True, False]
+>>> [is_end((1, 0)), is_slope((1, 0)), is_slope((2, 4)), is_range(((1, 0), (0, 1))), is_range(((1, 1), (1, 1)))]
+[True, False, False, True, False]
+>>> [is_picture(((1, 0), (0, 1), (None, ("", 0)))), is_picture(((0, 1), (0, 1), (None, None))), is_wish((("", "a"), (0,), 1, 9, False))]
+[True, False, True]
+>>> [less_steep((2, 1), (1, 1)), added((1, 0), (0, 1)), are_neighbours((1, 0), (3, 1)), are_neighbours((1, 0), (1, 2))]
+[True, (1, 1), True, False]
+>>> [simpler((1, 2), (2, 1)), lies_in(((2, 1), (1, 1)), (3, 2)), simplest_first([(3, 2), (2, 1), (1, 2), (2, 1)])]
+[True, True, [(1, 2), (2, 1), (3, 2)]]
+>>> [slopes_up_to(4), slopes_between(((1, 0), (1, 1)), 5)]
+[[(1, 1), (1, 2), (2, 1), (1, 3), (3, 1)], [(2, 1), (3, 1), (3, 2), (4, 1)]]
+'''
+
+TABLES = r'''
+>>> from hownarrow.drawings import drawn, lies_at, read_drawing
+>>> from hownarrow.otherwise import mirrored, refined, refined_corner, renamed, turned, with_join, without_join
+>>> from hownarrow.tables import edge_ahead, edges_of, joined_to, made_table, permutation_of, pocket_at, point_of, points_of, table_fault
+>>> from hownarrow.tabletexts import read_table, show_table
+>>> two = (2, 1, (1, None), (None, None), (), (((0, 0, 0), "a"),))
+>>> edges_of(two)
+(('down', 0), ('down', 1), ('left', 0), ('right', 0), ('right', 1), ('up', 0), ('up', 1))
+>>> [edge_ahead(two, (1, 1, 0, 0), False), joined_to(two, ("right", 0)), joined_to(two, ("right", 1)), edge_ahead(two, (1, 1, 0, 0), True)]
+[('right', 0), 1, None, ('up', 1)]
+>>> [point_of(two, (1, 0, 1)), len(points_of(two)), pocket_at(two, (0, 0, 0)), pocket_at(two, (1, 1, 1))]
+[((0, 1, 1), (1, 0, 1)), 6, 'a', None]
+>>> made_table(2, 2, [1, None], [None, None], [("left", 1, (1, 0))], [((1, 0, 0), "mid")])
+(2, 2, (1, None), (None, None), ((('right', 0), (1, 0)),), (((0, 1, 0), 'mid'),))
+>>> [table_fault(two), table_fault(two[:5]), table_fault((2, 1, (1, 1), (None, None), (), ())), permutation_of(two, ("up", 1))]
+[None, 'form', 'rights', (0,)]
+>>> show_table(two)
+'cells 2\nmarks 1\nright 0 1\npocket 0 0 0 a'
+>>> read_table("cells 2\n marks  2\n\nright 0 1\ndial right 0 1 0\npocket 0 1 0 mid")
+(2, 2, (1, None), (None, None), ((('right', 0), (1, 0)),), (((0, 1, 0), 'mid'),))
+>>> bend = (3, 1, (1, None, None), (2, None, None), (), (((1, 1, 0), "a"),))
+>>> drawn(bend, ((0, 0), (1, 0), (0, 1))).split("\n")
+['+-+', '|.|', '+ +-+', '|. .|', '+-+-a']
+>>> [lies_at(bend, ((0, 0), (1, 0), (0, 1))), lies_at(bend, ((0, 0), (1, 0), (1, 1)))]
+[True, False]
+>>> read_drawing("+-+\n|.|\n+ +-+\n|. .|\n+-+-a")
+((3, 1, (2, None, None), (1, None, None), (), (((2, 1, 0), 'a'),)), ((0, 0), (0, 1), (1, 0)))
+>>> [mirrored(two, False), turned(two), renamed(two, (1, 0))]
+[(2, 1, (None, 0), (None, None), (), (((0, 1, 0), 'a'),)), (2, 1, (None, None), (1, None), (), (((0, 0, 0), 'a'),)), (2, 1, (None, 0), (None, None), (), (((1, 0, 0), 'a'),))]
+>>> [refined((1, 1, (None,), (None,), (), (((0, 1, 1), "b"),)), 2), refined_corner(2, (0, 1, 1))]
+[(4, 1, (1, None, 3, None), (2, 3, None, None), (), (((3, 1, 1), 'b'),)), (3, 1, 1)]
+>>> [with_join(two, "right", 1, 0), with_join(two, "right", 0, 0), without_join(two, "right", 0)]
+[(2, 1, (1, 0), (None, None), (), (((0, 0, 0), 'a'),)), None, (2, 1, (None, None), (None, None), (), (((0, 0, 0), 'a'),))]
+'''
+
+BALLS = r'''
+>>> from hownarrow.balls import contrary, shot, stretch, track
+>>> from hownarrow.labels import about, from_sideways, from_up, labels_of, sideways, up
+>>> box = (1, 1, (None,), (None,), (), (((0, 0, 0), "home"), ((0, 0, 1), "left"), ((0, 1, 0), "low"), ((0, 1, 1), "far")))
+>>> spot = (0, 0, 0, 0)
+>>> [labels_of(box), sideways(box, spot), up(box, spot), about((0, 0, 1, 0))]
+[((0, 0, 0, 0), (0, 0, 1, 0), (0, 1, 0, 0), (0, 1, 1, 0)), (0, 1, 0, 0), (0, 0, 1, 0), (0, 1, 0, 0)]
+>>> [stretch(box, spot, (2, 1)), shot(box, spot, (2, 1)), shot(box, spot, (3, 5)), shot(box, spot, (1, 4)), track(box, spot, (1, 1))]
+[(((('right', 0), (0, 1, 0, 0)),), (0, 0, 1, 0)), ('falls', 'left', 0, 1), ('falls', 'far', 0, 1), ('falls', 'low', 0, 1), ((0, 0, 0, 0), (0, 1, 1, 0))]
+>>> pair = (2, 2, (1, None), (None, None), ((("right", 0), (1, 0)),), ())
+>>> [sideways(pair, (0, 0, 0, 0)), sideways(pair, (1, 1, 0, 1)), from_sideways(pair, (1, 0, 0, 1)), from_up(pair, (0, 0, 0, 0))]
+[(1, 0, 0, 1), (0, 1, 0, 0), (0, 0, 0, 0), (0, 0, 1, 0)]
+>>> [shot(pair, spot, (1, 1)), track(pair, spot, (1, 1))]
+[('round', 4), ((0, 0, 0, 0), (1, 0, 1, 1), (1, 1, 0, 1), (0, 1, 1, 0), (0, 0, 0, 0))]
+>>> [stretch(pair, spot, (2, 1)), shot(pair, spot, (2, 1)), contrary(pair, spot, (2, 1)), stretch(pair, (1, 1, 1, 1), (2, 1))[0]]
+[(((('right', 0), (1, 0, 0, 1)),), (1, 1, 1, 1)), ('round', 2), (1, 1, 1, 1), ((('right', 0), (0, 1, 1, 0)),)]
+'''
+
+POINTS_AND_SQUARES = r'''
+>>> from hownarrow.points import falls_of, holes_of, is_free, kept_labels, quarters_many
+>>> from hownarrow.squares import kinds_of, number_of, often, one_then, order_of, rounds_of, sides_of, turned_back, turns_at, turns_of, ups_of
+>>> one = (1, 1, (None,), (None,), (), (((0, 1, 1), "d"),))
+>>> [kept_labels(one) == ((0, 0, 0, 0), (0, 0, 1, 0), (0, 1, 0, 0), (0, 1, 1, 0)), holes_of(one), falls_of(one)]
+[True, (), {(0, 1, 1): 'd'}]
+>>> [sides_of(one), ups_of(one), one_then(sides_of(one), ups_of(one)), kinds_of(one)]
+[(2, 3, 0, 1), (1, 0, 3, 2), (3, 2, 1, 0), (None, None, None, ('d', 0))]
+>>> bent = (3, 1, (1, None, None), (2, None, None), (), ())
+>>> [holes_of(bent), falls_of(bent), quarters_many(bent, (2, 1, 0)), is_free(bent, (1, 0, 1)), is_free(bent, (1, 1, 1))]
+[((0, 1, 1),), {(0, 1, 1): ''}, 3, False, True]
+>>> [number_of(bent, (1, 0, 1, 0)), turns_of(bent), turns_at(bent, (0, 1, 1))]
+[5, (0, 1, 2, 5, 4, 10, 6, 7, 8, 9, 3, 11), [((0, 1, 1, 0), (1, 0, 1, 0), (2, 1, 0, 0))]]
+>>> [turns_at(bent, (0, 0, 1)), rounds_of(turns_of(one)), order_of(turns_of(bent))]
+[[((0, 0, 1, 0),), ((2, 0, 0, 0),)], [(0,), (1,), (2,), (3,)], 3]
+>>> [turned_back((1, 2, 0)), often((1, 2, 0), 10 ** 12 + 1), rounds_of((1, 2, 0, 3))]
+[(2, 0, 1), (2, 0, 1), [(0, 1, 2), (3,)]]
+'''
+
+
+class TestExamples(unittest.TestCase):
+    def check(self, text, many):
+        test = doctest.DocTestParser().get_doctest(text, {}, "DOC.md", None, 0)
+        self.assertEqual(len(test.examples), many)
+        told = []
+        failed, tried = doctest.DocTestRunner().run(test, out=told.append)
+        self.assertEqual((failed, tried), (0, many), "".join(told))
+
+    def test_forms_and_slopes(self):
+        self.check(FORMS_AND_SLOPES, 12)
+
+    def test_tables(self):
+        self.check(TABLES, 19)
+
+    def test_balls(self):
+        self.check(BALLS, 10)
+
+    def test_points_and_squares(self):
+        self.check(POINTS_AND_SQUARES, 10)
+
+    def test_readme(self):
+        with open(README, encoding="utf-8") as file:
+            text = file.read()
+        self.check(re.search(r"```\n(>>> .*?)```", text, re.DOTALL).group(1), 8)
+
+
+if __name__ == "__main__":
+    unittest.main()
