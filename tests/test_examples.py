@@ -68,6 +68,7 @@ TABLES = r'''
 BALLS = r'''
 >>> from hownarrow.balls import contrary, shot, stretch, track
 >>> from hownarrow.labels import about, from_sideways, from_up, labels_of, sideways, up
+>>> from hownarrow.places import place_at, times_over
 >>> box = (1, 1, (None,), (None,), (), (((0, 0, 0), "home"), ((0, 0, 1), "left"), ((0, 1, 0), "low"), ((0, 1, 1), "far")))
 >>> spot = (0, 0, 0, 0)
 >>> [labels_of(box), sideways(box, spot), up(box, spot), about((0, 0, 1, 0))]
@@ -81,6 +82,10 @@ BALLS = r'''
 [('round', 4), ((0, 0, 0, 0), (1, 0, 1, 1), (1, 1, 0, 1), (0, 1, 1, 0), (0, 0, 0, 0))]
 >>> [stretch(pair, spot, (2, 1)), shot(pair, spot, (2, 1)), contrary(pair, spot, (2, 1)), stretch(pair, (1, 1, 1, 1), (2, 1))[0]]
 [(((('right', 0), (1, 0, 0, 1)),), (1, 1, 1, 1)), ('round', 2), (1, 1, 1, 1), ((('right', 0), (0, 1, 1, 0)),)]
+>>> [place_at(pair, spot, (1, 1), time) for time in ((0, 1), (1, 2), (1, 1), (3, 2), (9, 2))]
+[(0, (0, 1), (0, 1), 0), (0, (1, 2), (1, 2), 0), (0, (1, 1), (1, 1), 0), (1, (1, 2), (1, 2), 1), (0, (1, 2), (1, 2), 0)]
+>>> [place_at(box, spot, (2, 1), (3, 4)), place_at(box, spot, (2, 1), (1, 1)), times_over(pair, spot, (2, 1), ("right", 0)), times_over(pair, spot, (2, 1), ("down", 1))]
+[(0, (1, 2), (3, 4), 0), (0, (0, 1), (1, 1), 0), ((1, 2), (3, 2)), ()]
 '''
 
 POINTS_AND_SQUARES = r'''
@@ -102,6 +107,38 @@ POINTS_AND_SQUARES = r'''
 [(2, 0, 1), (2, 0, 1), [(0, 1, 2), (3,)]]
 '''
 
+WORDS = r'''
+>>> from hownarrow.crossings import crossings_of, straight, way_of
+>>> from hownarrow.ranges import cover_of, node_in, simplest_in
+>>> from hownarrow.words import exchanged, neighbours_of, range_of, runs_of, slope_of, word_by, word_of
+>>> [word_of((1, 1)), word_of((5, 2)), neighbours_of("llr"), slope_of("llr"), slope_of("")]
+['', 'llr', ((3, 1), (2, 1)), (5, 2), (1, 1)]
+>>> [range_of("l"), runs_of("llr"), word_by([("l", 1), ("l", 1), ("r", 1), ("l", 0)]), exchanged("llr"), slope_of("rrl")]
+[((1, 0), (1, 1)), (('l', 2), ('r', 1)), 'llr', 'rrl', (2, 5)]
+>>> [simplest_in(((5, 2), (2, 1))), node_in(((5, 2), (2, 1))), simplest_in(((3, 1), (1, 1))), node_in(((3, 1), (1, 1))), node_in(((1, 0), (0, 1)))]
+[(7, 3), 'llrr', (2, 1), 'lr', '']
+>>> [cover_of(((3, 1), (1, 1))), cover_of(((5, 2), (2, 1))), cover_of(((1, 0), (2, 1)))]
+[('llr', (2, 1), 'lr'), ('llrr',), ('ll',)]
+>>> [crossings_of((1, 1)), crossings_of((3, 2)), crossings_of((5, 2)), straight((5, 2))]
+['', 'sus', 'ssuss', 'ssusssu']
+>>> [way_of("l"), way_of("llr"), way_of("lr")]
+[('s', 'su'), ('ssus', 'ssu'), ('sus', 'su')]
+'''
+
+PICTURES = r'''
+>>> from hownarrow.pictures import first_picture, led, outcome_at, outcome_of, picture_at, picture_of
+>>> pockets = (((0, 0, 0), "home"), ((0, 0, 1), "north"), ((0, 1, 0), "east"), ((0, 1, 1), "far"))
+>>> one = (1, 1, (None,), (None,), (), pockets)
+>>> first = first_picture(one, (0, 0, 0, 0))
+>>> first
+((1, 0, 3, 2), (2, 3, 0, 1), (('home', 0), ('east', 0), ('north', 0), ('far', 0)))
+>>> led(first, "l")
+((1, 0, 3, 2), (2, 3, 0, 1), (('home', 0), ('east', 0), ('far', 0), ('north', 0)))
+>>> [outcome_of(first), outcome_of(led(first, "l")), outcome_at(one, (0, 0, 0, 0), (3, 5))]
+[('falls', 'far', 0, 1), ('falls', 'north', 0, 1), ('falls', 'far', 0, 1)]
+>>> picture_of(one, (0, 0, 0, 0), (2, 1)) == picture_at(one, (0, 0, 0, 0), "l")
+True'''
+
 
 class TestExamples(unittest.TestCase):
     def check(self, text, many):
@@ -118,10 +155,16 @@ class TestExamples(unittest.TestCase):
         self.check(TABLES, 19)
 
     def test_balls(self):
-        self.check(BALLS, 10)
+        self.check(BALLS, 13)
 
     def test_points_and_squares(self):
         self.check(POINTS_AND_SQUARES, 10)
+
+    def test_words_ranges_and_crossings(self):
+        self.check(WORDS, 9)
+
+    def test_pictures(self):
+        self.check(PICTURES, 8)
 
     def test_readme(self):
         with open(README, encoding="utf-8") as file:

@@ -11,7 +11,7 @@ import unittest
 FOLDER = os.path.join(os.path.dirname(os.path.dirname(os.path.abspath(__file__))), "hownarrow")
 FILES = sorted(os.listdir(FOLDER))
 
-# [11] to [20]: the interface of the files that are written.
+# [11] to [23]: the interface of the files that are written.
 INTERFACE = {
     "errors": "CueError() NoCommand(line) NoShot() NoTable(fault) NoText(line, column) Nothing() TooMany(most) "
               "Wrong(place)",
@@ -38,6 +38,14 @@ INTERFACE = {
                "turns_at(table, corner)",
     "balls": "stretch(table, label, slope) track(table, label, slope) shot(table, label, slope) "
              "contrary(table, label, slope)",
+    "places": "place_at(table, label, slope, time) times_over(table, label, slope, edge)",
+    "words": "word_of(slope) word_by(runs) exchanged(word) neighbours_of(word) slope_of(word) range_of(word) "
+             "runs_of(word)",
+    "ranges": "simplest_in(within) cover_of(within) node_in(within)",
+    "crossings": "crossings_of(slope) straight(slope) way_of(word)",
+    "pictures": "numbered(sides, ups, kinds) first_picture(table, label) led(picture, letter) "
+                "picture_at(table, label, word) picture_of(table, label, slope) outcome_of(picture) "
+                "outcome_at(table, label, slope)",
 }
 
 LIBRARY = {

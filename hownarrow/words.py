@@ -1,0 +1,68 @@
+"""Words: how each SLOPE is come to by letters, and the SLOPES on both sides of it."""
+
+from hownarrow.slopes import added
+
+
+def word_of(slope):
+    """Return the WORD of a SLOPE."""
+    p, q = slope
+    parts = []
+    # What the letters have added is taken off, a whole run of them at once.
+    while p != q:
+        if p > q:
+            many = (p - 1) // q
+            parts.append("l" * many)
+            p -= many * q
+        else:
+            many = (q - 1) // p
+            parts.append("r" * many)
+            q -= many * p
+    return "".join(parts)
+
+
+def next_neighbours(neighbours, letter):
+    """Return the NEIGHBOURS of a WORD with one letter more behind it."""
+    first, second = neighbours
+    if letter == "l":
+        return (first, added(first, second))
+    return (added(first, second), second)
+
+
+def neighbours_of(word):
+    """Return the NEIGHBOURS of a WORD."""
+    neighbours = ((1, 0), (0, 1))
+    for letter in word:
+        neighbours = next_neighbours(neighbours, letter)
+    return neighbours
+
+
+def slope_of(word):
+    """Return the SLOPE of a WORD."""
+    first, second = neighbours_of(word)
+    return added(first, second)
+
+
+def range_of(word):
+    """Return the RANGE in which the SLOPES of all WORDS that begin with this one lie."""
+    return neighbours_of(word)
+
+
+def runs_of(word):
+    """Return the tuple of (letter, many): how often each letter stands side by side."""
+    runs = []
+    start = 0
+    for end in range(1, len(word) + 1):
+        if end == len(word) or word[end] != word[start]:
+            runs.append((word[start], end - start))
+            start = end
+    return tuple(runs)
+
+
+def word_by(runs):
+    """Return the WORD of tuples (letter, many)."""
+    return "".join([letter * many for letter, many in runs])
+
+
+def exchanged(word):
+    """Return a WORD with its two letters exchanged."""
+    return "".join(["r" if letter == "l" else "l" for letter in word])
