@@ -1,7 +1,6 @@
 """Ranges: the SIMPLEST SLOPE in one, and the WORDS that lead into it."""
 
-from hownarrow.slopes import added
-from hownarrow.words import neighbours_of, next_neighbours, slope_of, word_of
+from hownarrow.words import middle_of, neighbours_of, next_neighbours, slope_of, word_of
 
 
 def words_of_ends(within):
@@ -85,7 +84,7 @@ def cover_towards(word, end, away, back):
     for at in range(len(word) + 1, len(end)):
         if end[at] == away:
             items.append(end[:at] + back)
-            items.append(added(neighbours[0], neighbours[1]))
+            items.append(middle_of(neighbours))
         neighbours = next_neighbours(neighbours, end[at])
     items.append(end + back)
     return items

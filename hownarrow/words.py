@@ -28,6 +28,11 @@ def next_neighbours(neighbours, letter):
     return (added(first, second), second)
 
 
+def middle_of(neighbours):
+    """Return the SLOPE of the WORD that has these NEIGHBOURS."""
+    return added(neighbours[0], neighbours[1])
+
+
 def neighbours_of(word):
     """Return the NEIGHBOURS of a WORD."""
     neighbours = ((1, 0), (0, 1))
@@ -38,8 +43,7 @@ def neighbours_of(word):
 
 def slope_of(word):
     """Return the SLOPE of a WORD."""
-    first, second = neighbours_of(word)
-    return added(first, second)
+    return middle_of(neighbours_of(word))
 
 
 def range_of(word):

@@ -127,6 +127,7 @@ WORDS = r'''
 
 PICTURES = r'''
 >>> from hownarrow.pictures import first_picture, led, outcome_at, outcome_of, picture_at, picture_of
+>>> from hownarrow.wishes import both, everything, is_within, meets, wish_for
 >>> pockets = (((0, 0, 0), "home"), ((0, 0, 1), "north"), ((0, 1, 0), "east"), ((0, 1, 1), "far"))
 >>> one = (1, 1, (None,), (None,), (), pockets)
 >>> first = first_picture(one, (0, 0, 0, 0))
@@ -137,7 +138,57 @@ PICTURES = r'''
 >>> [outcome_of(first), outcome_of(led(first, "l")), outcome_at(one, (0, 0, 0, 0), (3, 5))]
 [('falls', 'far', 0, 1), ('falls', 'north', 0, 1), ('falls', 'far', 0, 1)]
 >>> picture_of(one, (0, 0, 0, 0), (2, 1)) == picture_at(one, (0, 0, 0, 0), "l")
-True'''
+True
+>>> wish = wish_for([("falls", "far", 0, 1), ("round", 4)])
+>>> [wish, everything(one), meets(wish, ("falls", "far", 0, 3)), meets(wish, ("falls", "north", 0, 1))]
+[(('far',), (0,), 1, 4, True), (('', 'east', 'far', 'home', 'north'), (0,), 1, 4, True), True, False]
+>>> [both(wish, (("far", "north"), (0, 1), 2, 9, False)), is_within(wish, everything(one)), is_within(everything(one), wish)]
+[(('far',), (0,), 2, 4, False), True, False]
+'''
+
+GRAPHS = r'''
+>>> from hownarrow.graphs import graph_of, row_at, way_back, word_to
+>>> from hownarrow.papers import is_graph, is_paper, paper_for
+>>> from hownarrow.pictures import outcome_of
+>>> from hownarrow.settled import first_met, is_kept, outcomes_of, simplest_broken, simplest_met
+>>> ell = (3, 1, (1, None, None), (2, None, None), (), (((0, 0, 0), "a"), ((1, 1, 0), "b"), ((2, 0, 1), "c")))
+>>> spot = (0, 0, 0, 0)
+>>> graph = graph_of(ell, spot)
+>>> [len(graph), graph[0][1:], graph[4][1:], outcome_of(graph[4][0]), row_at(graph, "lr"), word_to(graph, 9), way_back(graph, 7)]
+[18, (1, 2), (6, 9), ('falls', 'c', 0, 2), 4, 'lrr', 'l']
+>>> outcomes_of(ell, spot)
+{('falls', '', 0, 1): (1, 1), ('falls', 'a', 0, 2): (1, 2), ('falls', 'b', 0, 2): (1, 4), ('falls', 'c', 0, 2): (3, 2)}
+>>> wish = (("", "a", "b", "c"), (0,), 1, 2, False)
+>>> [is_kept(ell, spot, wish), simplest_broken(ell, spot, wish), simplest_broken(ell, spot, (("", "a", "c"), (0,), 1, 2, False))]
+[True, None, (1, 4)]
+>>> [simplest_met(ell, spot, (("c",), (0,), 1, 9, False)), first_met(ell, spot, (("c",), (0,), 1, 9, False), 4), paper_for(ell, spot, (("a",), (0,), 1, 9, True))]
+[(3, 2), None, None]
+>>> paper = paper_for(ell, spot, wish)
+>>> [is_paper(ell, spot, wish, paper), is_paper(ell, spot, wish, paper[::-1]), is_paper(ell, spot, wish, paper[1:]), is_graph(ell, spot, graph), is_graph(ell, spot, graph[::-1])]
+[True, True, False, True, False]
+'''
+
+NARROW = r'''
+>>> from hownarrow.narrow import nearest_above, nearest_below, simplest_shot, simplest_shots, word_within
+>>> from hownarrow.rounds import along, slope_along
+>>> box = (1, 1, (None,), (None,), (), (((0, 0, 0), "home"), ((0, 0, 1), "left"), ((0, 1, 0), "low"), ((0, 1, 1), "far")))
+>>> spot, left = (0, 0, 0, 0), (("left",), (0,), 1, 9, False)
+>>> [simplest_shot(box, spot, left, ((1, 0), (0, 1))), simplest_shot(box, spot, left, ((3, 1), (2, 1))), simplest_shot(box, spot, (("home",), (0,), 1, 9, True), ((1, 0), (0, 1)))]
+[(2, 1), (8, 3), None]
+>>> simplest_shots(box, spot, ((3, 1), (2, 1)))
+{('falls', 'far', 0, 1): (7, 3), ('falls', 'left', 0, 1): (8, 3), ('falls', 'low', 0, 1): (5, 2)}
+>>> [word_within(box, spot, left, ((3, 1), (2, 1))), word_within(box, spot, left, ((1, 0), (0, 1))), word_within(box, spot, ((), (), 1, 1, True), ((1, 0), (0, 1)))]
+['llrl', 'l', None]
+>>> [nearest_below(box, spot, left, (1, 1), 10), nearest_above(box, spot, left, (1, 1), 10), nearest_above(box, spot, left, (1, 1), 4), nearest_below(box, spot, left, (0, 1), 7)]
+[(4, 3), (4, 5), None, (2, 5)]
+>>> [along(box, spot, "", "l"), slope_along("", "l", 5), slope_along("lr", "rl", 0)]
+[(('falls', 'far', 0, 1), ('falls', 'left', 0, 1)), (6, 1), (3, 2)]
+>>> [outcome[1] for outcome in along(box, spot, "", "lr")]
+['far', 'low', 'left']
+>>> pair = (2, 2, (1, None), (None, None), ((("right", 0), (1, 0)),), ())
+>>> [along(pair, spot, "", "r"), along(pair, spot, "", "l"), simplest_shot(pair, spot, ((), (), 2, 2, True), ((1, 1), (0, 1)))]
+[(('round', 4),), (('round', 4), ('round', 2)), (2, 3)]
+'''
 
 
 class TestExamples(unittest.TestCase):
@@ -163,13 +214,19 @@ class TestExamples(unittest.TestCase):
     def test_words_ranges_and_crossings(self):
         self.check(WORDS, 9)
 
-    def test_pictures(self):
-        self.check(PICTURES, 8)
+    def test_pictures_and_wishes(self):
+        self.check(PICTURES, 12)
+
+    def test_graphs_papers_and_settled(self):
+        self.check(GRAPHS, 14)
+
+    def test_narrow_and_rounds(self):
+        self.check(NARROW, 12)
 
     def test_readme(self):
         with open(README, encoding="utf-8") as file:
             text = file.read()
-        self.check(re.search(r"```\n(>>> .*?)```", text, re.DOTALL).group(1), 8)
+        self.check("".join(re.findall(r"```\n(>>> .*?)```", text, re.DOTALL)), 15)
 
 
 if __name__ == "__main__":

@@ -11,7 +11,7 @@ import unittest
 FOLDER = os.path.join(os.path.dirname(os.path.dirname(os.path.abspath(__file__))), "hownarrow")
 FILES = sorted(os.listdir(FOLDER))
 
-# [11] to [23]: the interface of the files that are written.
+# [11] to [29]: the interface of the files that are written.
 INTERFACE = {
     "errors": "CueError() NoCommand(line) NoShot() NoTable(fault) NoText(line, column) Nothing() TooMany(most) "
               "Wrong(place)",
@@ -46,6 +46,15 @@ INTERFACE = {
     "pictures": "numbered(sides, ups, kinds) first_picture(table, label) led(picture, letter) "
                 "picture_at(table, label, word) picture_of(table, label, slope) outcome_of(picture) "
                 "outcome_at(table, label, slope)",
+    "wishes": "meets(wish, outcome) is_within(one, other) everything(table) wish_for(outcomes) both(one, other)",
+    "graphs": "graph_of(table, label) row_at(graph, word) word_to(graph, index) way_back(graph, index)",
+    "papers": "is_graph(table, label, thing) is_paper(table, label, wish, thing) paper_for(table, label, wish)",
+    "settled": "outcomes_of(table, label) is_kept(table, label, wish) simplest_broken(table, label, wish) "
+               "simplest_met(table, label, wish) first_met(table, label, wish, most)",
+    "narrow": "simplest_shot(table, label, wish, within) nearest_below(table, label, wish, end, most) "
+              "nearest_above(table, label, wish, end, most) simplest_shots(table, label, within) "
+              "word_within(table, label, wish, within)",
+    "rounds": "along(table, label, word, more) slope_along(word, more, many)",
 }
 
 LIBRARY = {
