@@ -39,9 +39,9 @@ def row_at(graph, word):
 
 
 def shortest_way(graph, start, goals):
-    """Return the shortest WORD, of several the least, from a ROW to one of some goals.
+    """Return the shortest WORD, of several the least, from a ROW to one of those that are goals.
 
-    goals has a truth for each ROW; there is one that is True.
+    goals tells of each ROW whether it is one; where none is, None is returned.
     """
     before = {start: None}
     met = [start]
