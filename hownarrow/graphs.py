@@ -1,29 +1,20 @@
 """Graphs: all PICTURES of a TABLE and a SPOT, and how letters lead from one to the other."""
 
-from hownarrow.errors import TooMany
-from hownarrow.pictures import first_picture, led
+from hownarrow.growing import Growing
+from hownarrow.pictures import first_picture
 
 MOST = 4000
 
 
 def graph_of(table, label):
     """Return the GRAPH of a TABLE and a SPOT."""
-    pictures = [first_picture(table, label)]
-    places = {pictures[0]: 0}
-    rows = []
-    while len(rows) < len(pictures):
-        picture = pictures[len(rows)]
-        ways = []
-        for letter in ("l", "r"):
-            there = led(picture, letter)
-            if there not in places:
-                if len(pictures) == MOST:
-                    raise TooMany(MOST)
-                places[there] = len(pictures)
-                pictures.append(there)
-            ways.append(places[there])
-        rows.append((picture, ways[0], ways[1]))
-    return tuple(rows)
+    growing = Growing(first_picture(table, label), MOST)
+    ways = []
+    # PICTURES get their indexes as they are met, so just in the order of the ROWS.
+    while len(ways) < len(growing.pictures):
+        here = len(ways)
+        ways.append((growing.led_to(here, "l"), growing.led_to(here, "r")))
+    return tuple([(picture, left, right) for picture, (left, right) in zip(growing.pictures, ways)])
 
 
 def row_behind(graph, index, word):

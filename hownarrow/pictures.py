@@ -1,7 +1,7 @@
 """Pictures: what stands behind a WORD, and the OUTCOME that is read off it."""
 
-from hownarrow.squares import kinds_of, number_of, one_then, sides_of, ups_of
-from hownarrow.words import word_of
+from hownarrow.squares import kinds_of, number_of, often, one_then, sides_of, ups_of
+from hownarrow.words import runs_of, steps_to
 
 
 def numbered_from(start, sides, ups, kinds):
@@ -10,12 +10,17 @@ def numbered_from(start, sides, ups, kinds):
     places[start] = 0
     met = [start]
     done = 0
-    while done < len(met):
+    # Once all are met nothing new can come, so the rest of the ways is not gone.
+    while done < len(met) < len(sides):
         at = met[done]
-        for there in (sides[at], ups[at]):
-            if places[there] is None:
-                places[there] = len(met)
-                met.append(there)
+        aside = sides[at]
+        if places[aside] is None:
+            places[aside] = len(met)
+            met.append(aside)
+        over = ups[at]
+        if places[over] is None:
+            places[over] = len(met)
+            met.append(over)
         done += 1
     return (
         tuple([places[sides[at]] for at in met]),
@@ -48,13 +53,27 @@ def led(picture, letter):
     return numbered(aside, over, kinds)
 
 
-def led_along(picture, word):
-    """Return the PICTURE behind all letters of a WORD more."""
+def both_behind(sides, ups, steps):
+    """Return the two PERMUTATIONS that letters make of two; steps are tuples (letter, many)."""
+    for letter, many in steps:
+        if letter == "l":
+            ups = one_then(sides if many == 1 else often(sides, many), ups)
+        else:
+            sides = one_then(ups if many == 1 else often(ups, many), sides)
+    return (sides, ups)
+
+
+def led_by(picture, steps):
+    """Return the PICTURE behind all letters of steps more."""
     sides, ups, kinds = picture
     # How integers are called in between does not matter, so they are numbered just once.
-    for letter in word:
-        sides, ups = both_led(sides, ups, letter)
-    return numbered(sides, ups, kinds)
+    aside, over = both_behind(sides, ups, steps)
+    return numbered(aside, over, kinds)
+
+
+def led_along(picture, word):
+    """Return the PICTURE behind all letters of a WORD more."""
+    return led_by(picture, runs_of(word))
 
 
 def picture_at(table, label, word):
@@ -64,7 +83,7 @@ def picture_at(table, label, word):
 
 def picture_of(table, label, slope):
     """Return the PICTURE of a TABLE and a SPOT behind the WORD of a SLOPE."""
-    return picture_at(table, label, word_of(slope))
+    return led_by(first_picture(table, label), steps_to(slope))
 
 
 def outcome_of(picture):

@@ -3,21 +3,26 @@
 from hownarrow.slopes import added
 
 
-def word_of(slope):
-    """Return the WORD of a SLOPE."""
+def steps_to(slope):
+    """Return the list of tuples (letter, many) that lead to a SLOPE of any size, one run after the other."""
     p, q = slope
-    parts = []
+    steps = []
     # What the letters have added is taken off, a whole run of them at once.
     while p != q:
         if p > q:
             many = (p - 1) // q
-            parts.append("l" * many)
+            steps.append(("l", many))
             p -= many * q
         else:
             many = (q - 1) // p
-            parts.append("r" * many)
+            steps.append(("r", many))
             q -= many * p
-    return "".join(parts)
+    return steps
+
+
+def word_of(slope):
+    """Return the WORD of a SLOPE."""
+    return word_by(steps_to(slope))
 
 
 def next_neighbours(neighbours, letter):
