@@ -75,6 +75,11 @@ def is_slope(thing):
     return is_end(thing) and thing[0] > 0 and thing[1] > 0
 
 
+def is_slope_to(most, thing):
+    """Tell whether thing is a SLOPE with numbers up to most."""
+    return is_slope(thing) and max(thing) <= most
+
+
 def is_range(thing):
     """Tell whether thing is a RANGE."""
     if not is_tuple_of(2, thing):

@@ -32,7 +32,7 @@ def words_of(line):
 def number_shown(word, most):
     """Return the integer from 0 to most that is written so, None if there is none."""
     # The length is asked first: Python reads no integers of thousands of digits.
-    if len(word) > len(str(most)) or not all(["0" <= sign <= "9" for sign in word]):
+    if not 1 <= len(word) <= len(str(most)) or not all(["0" <= sign <= "9" for sign in word]):
         return None
     number = int(word)
     return number if str(number) == word and number <= most else None

@@ -190,6 +190,121 @@ NARROW = r'''
 [(('round', 4),), (('round', 4), ('round', 2)), (2, 3)]
 '''
 
+ALIKE = r'''
+>>> from hownarrow.alike import are_alike, couples_of, parting_slope
+>>> from hownarrow.graphs import graph_of
+>>> from hownarrow.leastgraph import is_least, least_of, outcome_by, row_behind, rounds_by
+>>> from hownarrow.remainders import is_told_by, level_of, marks_many, remainder_table
+>>> four = (((0, 0, 0), "a"), ((0, 0, 1), "b"), ((0, 1, 0), "c"), ((0, 1, 1), "d"))
+>>> plain, dial = (1, 1, (None,), (None,), (), four), (1, 2, (None,), (None,), ((("right", 0), (1, 0)),), four)
+>>> spot = (0, 0, 0, 0)
+>>> least = least_of(graph_of(plain, spot))
+>>> least[:3]
+((('falls', 'd', 0, 1), 1, 2), (('falls', 'b', 0, 1), 0, 3), (('falls', 'c', 0, 1), 4, 0))
+>>> [len(least), rounds_by(least, "l"), row_behind(least, "lr"), outcome_by(least, (3, 2)), is_least(least)]
+[6, [(0, 1), (2, 4), (3, 5)], 3, ('falls', 'c', 0, 1), True]
+>>> [level_of(least), is_told_by(least, 2), marks_many(least, 2), is_told_by(least, 3), marks_many(least, 3)]
+[2, True, 6, False, 144]
+>>> remainder_table(least, 2)
+{(0, 1): ('falls', 'b', 0, 1), (1, 0): ('falls', 'c', 0, 1), (1, 1): ('falls', 'd', 0, 1)}
+>>> turning = least_of(graph_of(dial, spot))
+>>> [len(turning), level_of(turning), is_told_by(turning, 4), is_told_by(turning, 2)]
+[24, 4, True, False]
+>>> [are_alike(plain, spot, dial, spot), parting_slope(plain, spot, dial, spot), are_alike(plain, spot, plain, spot), len(couples_of(plain, spot, dial, spot))]
+[False, (1, 1), True, 24]
+>>> bare, strip = (1, 1, (None,), (None,), (), ()), (1, 1, (0,), (None,), (), ())
+>>> [least_of(graph_of(bare, spot)), least_of(graph_of(strip, spot)), parting_slope(bare, spot, strip, spot)]
+[((('round', 2), 0, 0),), ((('round', 2), 0, 1), (('round', 1), 2, 0), (('round', 2), 1, 2)), (1, 2)]
+'''
+
+STRIPS = r'''
+>>> from hownarrow.inner import gone, is_ball, meets_corners, met_corner, round_of, row_under, strip_at
+>>> from hownarrow.strips import above, row_above, row_of, rows_of, strips_of
+>>> bend = (3, 1, (1, None, None), (2, None, None), (), ())
+>>> [above(bend, (0, 0, 0, 0), (1, 1)), above(bend, (0, 0, 0, 0), (2, 1)), row_of(bend, (2, 1, 0, 0), (1, 2))]
+[(2, 1, 0, 0), (1, 1, 1, 0), ((0, 0, 1, 0), (2, 1, 0, 0))]
+>>> rows_of(bend, (1, 2))[:2]
+(((0, 0, 0, 0), (2, 1, 1, 0)), ((0, 0, 1, 0), (2, 1, 0, 0)))
+>>> [row_above(bend, (1, 2), ((0, 0, 1, 0), (2, 1, 0, 0))), row_above(bend, (1, 2), ((0, 0, 0, 0), (2, 1, 1, 0)))]
+[((0, 0, 0, 0), (2, 1, 1, 0)), None]
+>>> [(many, len(rows), is_round) for many, rows, is_round in strips_of(bend, (1, 2))]
+[(2, 2, False), (4, 2, False)]
+>>> strips_of((1, 1, (None,), (None,), (), ()), (1, 1))
+((2, (((0, 0, 0, 0), (0, 1, 1, 0)), ((0, 0, 1, 0), (0, 1, 0, 0))), True),)
+>>> ball = ((0, 0, 0, 0), (1, 3), (1, 4))
+>>> [is_ball(bend, ball), is_ball(bend, (ball[0], (1, 3), (2, 8))), meets_corners(ball, (1, 1)), meets_corners((ball[0], (1, 2), (1, 2)), (1, 1))]
+[True, False, False, True]
+>>> [gone(bend, ball, (1, 1)), gone(bend, ball, (1, 2))[0], row_under(bend, ball, (1, 2)), strip_at(bend, ball, (1, 2)), round_of(bend, ball, (1, 2)), round_of(bend, ball, (1, 1))]
+[((1, 0, 1, 0), (1, 3), (1, 4)), (2, 1, 1, 0), ((0, 0, 1, 0), (2, 1, 0, 0)), 0, 2, 6]
+>>> [met_corner(bend, ball, (1, 1)), met_corner(bend, (ball[0], (1, 2), (1, 2)), (1, 1))]
+[None, ((1, 2), (1, 0, 1, 0))]
+'''
+
+COUNTS = r'''
+>>> from hownarrow.counts import counts_by_depth, counts_to, shares
+>>> from hownarrow.cushions import cushions_of, fewest
+>>> box = (1, 1, (None,), (None,), (), (((0, 0, 0), "home"), ((0, 0, 1), "left"), ((0, 1, 0), "low"), ((0, 1, 1), "far")))
+>>> pair = (2, 2, (1, None), (None, None), ((("right", 0), (1, 0)),), ())
+>>> spot = (0, 0, 0, 0)
+>>> counts_by_depth(box, spot, 2)[1:]
+[{('falls', 'left', 0, 1): 1, ('falls', 'low', 0, 1): 1}, {('falls', 'far', 0, 1): 2, ('falls', 'left', 0, 1): 1, ('falls', 'low', 0, 1): 1}]
+>>> [counts_by_depth(pair, spot, 3), shares(pair, spot)]
+[[{('round', 4): 1}, {('round', 2): 1, ('round', 4): 1}, {('round', 2): 1, ('round', 4): 3}, {('round', 2): 3, ('round', 4): 5}], {('round', 2): (1, 3), ('round', 4): (2, 3)}]
+>>> [sum(counts_by_depth(pair, spot, 200)[200].values()) == 2 ** 200, shares(box, spot)[("falls", "left", 0, 1)]]
+[True, (1, 3)]
+>>> [counts_to(box, spot, 4), counts_to(pair, spot, 5), counts_to(pair, spot, 1)]
+[{('falls', 'far', 0, 1): 3, ('falls', 'left', 0, 1): 1, ('falls', 'low', 0, 1): 1}, {('round', 2): 3, ('round', 4): 6}, {}]
+>>> [cushions_of(box, spot, (2, 1)), cushions_of(box, spot, (8, 3)), cushions_of(pair, spot, (2, 1)), cushions_of(pair, spot, (1, 2)), cushions_of(pair, spot, (2, 3))]
+[1, 9, 0, 4, 4]
+>>> [fewest(box, spot, (("left",), (0,), 1, 9, False), 20), fewest(pair, spot, ((), (), 2, 2, True), 8), fewest(pair, spot, ((), (), 3, 3, True), 8)]
+[((2, 1), 1), ((2, 1), 0), None]
+'''
+
+GAMES = r'''
+>>> from hownarrow.games import Game
+>>> from hownarrow.strokes import are_values, best_stroke, gains_of, read_stroke, show_stroke, value_of
+>>> dial = (1, 2, (None,), (None,), ((("right", 0), (1, 0)),), (((0, 0, 1), "low"), ((0, 1, 1), "far")))
+>>> spots, worths = ((0, 0, 0), (0, 1, 0)), {"far": 3, "low": 1}
+>>> game = Game(dial, spots, worths)
+>>> [game.strike((0, 0, 0), (1, 1)), game.dial(), game.turn()]
+[('falls', 'far', 1, 1), 1, 1]
+>>> [game.strike((0, 1, 0), (1, 1)), game.strike((0, 0, 0), (2, 1)), game.scores(), game.dial()]
+[('falls', 'low', 1, 1), ('falls', 'low', 0, 1), (4, 1), 0]
+>>> game.struck(0)
+>>> [game.outcomes(), game.scores(), game.undo(), game.scores()]
+[(('falls', 'low', 0, 1), ('falls', 'low', 1, 1)), (1, 1), None, (4, 1)]
+>>> gains_of(dial, spots, worths, 0)
+{(0, 0): ((0, 0, 0), (1, 2)), (1, 0): ((0, 1, 0), (1, 1)), (1, 1): ((0, 0, 0), (2, 1)), (3, 0): ((0, 0, 0), (3, 1)), (3, 1): ((0, 0, 0), (1, 1))}
+>>> [value_of(dial, spots, worths, 0, many) for many in range(4)]
+[0, 3, 0, 3]
+>>> [best_stroke(dial, spots, worths, 0, 1), show_stroke(((0, 1, 0), (3, 2))), read_stroke(dial, spots, "0 1 0 3 2")]
+[((0, 0, 0), (1, 1)), '0 1 0 3 2', ((0, 1, 0), (3, 2))]
+'''
+
+DESK = r'''
+>>> from hownarrow.desk import Desk
+>>> from hownarrow.kept import Kept
+>>> four = (((0, 0, 0), "a"), ((0, 0, 1), "b"), ((0, 1, 0), "c"), ((0, 1, 1), "d"))
+>>> plain, dial = (1, 1, (None,), (None,), (), four), (1, 2, (None,), (None,), ((("right", 0), (1, 0)),), four)
+>>> kept = Kept(plain, (0, 0, 0, 0))
+>>> [kept.put_wish("never", (("b", "c", "d"), (0,), 1, 1, False)), kept.put_wish("far", (("d",), (0,), 1, 1, False)), kept.kept(), kept.broken()]
+[True, True, {'far': False, 'never': True}, {'far': (1, 2)}]
+>>> [kept.rows_many(), kept.put_table(dial), kept.rows_many(), kept.stayed(), kept.put_table(dial), kept.outcome((1, 1))]
+[6, True, 24, 0, False, ('falls', 'd', 1, 1)]
+>>> kept.undo()
+>>> [kept.table() == plain, kept.stayed(), kept.put_spot((0, 1, 1, 0)), kept.stayed(), kept.outcome((1, 1))]
+[True, 6, True, 0, ('falls', 'a', 0, 1)]
+>>> desk = Desk()
+>>> [desk.execute("shoot 3 2"), desk.execute("rows"), desk.execute("outcomes")]
+[['round 2'], ['1'], ['round 2 by 1 1']]
+>>> [desk.execute("table\ncells 1\nmarks 1\npocket 0 0 1 left\npocket 0 1 1 far"), desk.execute("shoot 2 1"), desk.execute("shoot 1 2")]
+[['done'], ['falls left 0 1'], ['round 2']]
+>>> [desk.execute("outcomes"), desk.execute("wish in far,left 0 1 1 no"), desk.execute("wishes"), desk.execute("narrow in 3 1 2 1")]
+[['falls far 0 1 by 1 1', 'falls left 0 1 by 2 1', 'round 2 by 1 2'], ['done'], ['in broken by 1 2'], ['7 3']]
+>>> [desk.execute("spot 0 0 1 0"), desk.execute("where"), desk.execute("shoot 1 1"), desk.execute("undo"), desk.execute("where"), desk.execute("show")]
+[['done'], ['0 0 1 0'], ['falls left 0 2'], ['done'], ['0 0 0 0'], ['cells 1', 'marks 1', 'pocket 0 0 1 left', 'pocket 0 1 1 far']]
+'''
+
 
 class TestExamples(unittest.TestCase):
     def check(self, text, many):
@@ -223,10 +338,25 @@ class TestExamples(unittest.TestCase):
     def test_narrow_and_rounds(self):
         self.check(NARROW, 12)
 
+    def test_alike_leastgraph_and_remainders(self):
+        self.check(ALIKE, 17)
+
+    def test_strips_and_inner(self):
+        self.check(STRIPS, 12)
+
+    def test_counts_and_cushions(self):
+        self.check(COUNTS, 11)
+
+    def test_games_and_strokes(self):
+        self.check(GAMES, 12)
+
+    def test_kept_and_desk(self):
+        self.check(DESK, 14)
+
     def test_readme(self):
         with open(README, encoding="utf-8") as file:
             text = file.read()
-        self.check("".join(re.findall(r"```\n(>>> .*?)```", text, re.DOTALL)), 15)
+        self.check("".join(re.findall(r"```\n(>>> .*?)```", text, re.DOTALL)), 25)
 
 
 if __name__ == "__main__":

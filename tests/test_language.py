@@ -11,7 +11,7 @@ import unittest
 FOLDER = os.path.join(os.path.dirname(os.path.dirname(os.path.abspath(__file__))), "hownarrow")
 FILES = sorted(os.listdir(FOLDER))
 
-# [11] to [29]: the interface of the files that are written.
+# [11] to [40]: the interface of all files.
 INTERFACE = {
     "errors": "CueError() NoCommand(line) NoShot() NoTable(fault) NoText(line, column) Nothing() TooMany(most) "
               "Wrong(place)",
@@ -55,6 +55,32 @@ INTERFACE = {
               "nearest_above(table, label, wish, end, most) simplest_shots(table, label, within) "
               "word_within(table, label, wish, within)",
     "rounds": "along(table, label, word, more) slope_along(word, more, many)",
+    "alike": "couples_of(one, spot, other, second) are_alike(one, spot, other, second) "
+             "is_couples(one, spot, other, second, thing) parting_slope(one, spot, other, second)",
+    "leastgraph": "least_of(rows) is_least(thing) row_behind(least, word) outcome_by(least, slope) "
+                  "rounds_by(least, letter)",
+    "remainders": "level_of(least) marks_many(least, number) is_told_by(least, number) "
+                  "are_unlike(least, number, thing) remainder_table(least, number) unlike_slopes(least, number)",
+    "strips": "above(table, label, slope) row_of(table, label, slope) rows_of(table, slope) "
+              "strips_of(table, slope) row_above(table, slope, row)",
+    "inner": "is_ball(table, thing) meets_corners(ball, slope) gone(table, ball, slope) row_under(table, ball, slope) "
+             "strip_at(table, ball, slope) round_of(table, ball, slope) met_corner(table, ball, slope)",
+    "counts": "counts_by_depth(table, label, most) shares(table, label) counts_to(table, label, most)",
+    "cushions": "cushions_of(table, label, slope) fewest(table, label, wish, most)",
+    "games": "Game(table, spots, worths)",
+    "strokes": "show_stroke(stroke) read_stroke(table, spots, text) best_stroke(table, spots, worths, mark, many) "
+               "gains_of(table, spots, worths, mark) value_of(table, spots, worths, mark, many) "
+               "are_values(table, spots, worths, most, thing)",
+    "kept": "Kept(table, label)",
+    "desk": "Desk()",
+}
+# The methods of the classes, each defined in the class itself.
+METHODS_OF = {
+    ("games", "Game"): "table() spots() strokes() outcomes() scores() worths() dial() turn() strike(seat, slope) "
+                       "told(at, seat, slope) struck(at) undo() twin() __eq__(other)",
+    ("kept", "Kept"): "put_table(table) put_spot(label) put_wish(name, wish) take_wish(name) table() spot() wishes() "
+                      "kept() broken() outcome(slope) rows_many() stayed() undo() twin() __eq__(other)",
+    ("desk", "Desk"): "execute(line) table() spot() wishes() twin() __eq__(other)",
 }
 
 LIBRARY = {
@@ -86,7 +112,8 @@ BARRED_NAMES = (
 PYTHONS_OWN = set(dir(builtins)) - {"_"}
 BARRED_NODES = (
     ast.Global, ast.AsyncFunctionDef, ast.Await, ast.AsyncFor, ast.AsyncWith, ast.Div, ast.GeneratorExp, ast.Yield,
-    ast.YieldFrom, ast.Import, ast.AnnAssign, ast.Nonlocal, ast.Try, ast.With,
+    ast.YieldFrom, ast.Import, ast.AnnAssign, ast.Nonlocal, ast.With, ast.AsyncWith, ast.Match, ast.Lambda,
+    ast.NamedExpr, ast.Assert, ast.Delete,
 )
 
 
@@ -152,7 +179,11 @@ class TestLanguage(unittest.TestCase):
                 if isinstance(node, ast.Assign):
                     self.assertEqual(len(node.targets), 1)
                     self.assertIsInstance(node.targets[0], ast.Name)
-                    ast.literal_eval(node.value)
+                    if isinstance(node.value, ast.Dict) and isinstance(node.value.values[0], ast.Name):
+                        # A table of functions that are defined above.
+                        self.assertEqual({one.id for one in node.value.values} - set(bound), set(), name)
+                    else:
+                        ast.literal_eval(node.value)
                     bound.append(node.targets[0].id)
                 elif isinstance(node, ast.ImportFrom):
                     bound.extend([one.name for one in node.names])
@@ -200,8 +231,15 @@ class TestLanguage(unittest.TestCase):
                     for sign, side in zip(node.ops, node.comparators):
                         if isinstance(sign, (ast.Is, ast.IsNot)):
                             self.assertIsInstance(side, ast.Constant, name)
+                if isinstance(node, ast.Starred):
+                    self.assertIsInstance(node.value, ast.Name, name)
                 if isinstance(node, ast.Raise):
                     self.assertIsInstance(node.exc, ast.Call, name)
+                if isinstance(node, ast.Try):
+                    # Only own errors are caught, each by its name.
+                    self.assertEqual((node.finalbody, node.orelse), ([], []), name)
+                    for handler in node.handlers:
+                        self.assertIn(handler.type.id, ("NoText", "Nothing", "TooMany"), name)
 
     def test_names(self):
         for name, tree in self.trees():
@@ -221,6 +259,11 @@ class TestLanguage(unittest.TestCase):
                 for named in (getattr(node, "id", None), getattr(node, "attr", None), getattr(node, "arg", None)):
                     if named is not None:
                         self.assertRegex(named, r"\A(_|_?[A-Za-z][A-Za-z0-9_]*|__init__)\Z")
+                if isinstance(node, ast.ClassDef):
+                    named = {one.name for one in node.body if isinstance(one, ast.FunctionDef)}
+                    marked = {one for one in named if one.startswith("__")}
+                    self.assertEqual(marked - {"__init__", "__eq__"}, set(), (name, node.name))
+                    self.assertEqual(len(named), len(node.body) - 1, (name, node.name))
 
     def test_methods_and_sets(self):
         own = set()
@@ -242,6 +285,29 @@ class TestLanguage(unittest.TestCase):
                     self.assertIn(id(node), allowed, (name, node.lineno))
                 self.assertNotIsInstance(node, (ast.Set, ast.SetComp), name)
 
+    def test_attributes_and_methods(self):
+        methods, assigned, read = set(), set(), set()
+        for name, tree in self.trees():
+            for node in ast.walk(tree):
+                if isinstance(node, ast.ClassDef):
+                    methods |= {one.name for one in node.body if isinstance(one, ast.FunctionDef)}
+                if isinstance(node, ast.Attribute):
+                    (read if isinstance(node.ctx, ast.Load) else assigned).add(node.attr)
+                    if isinstance(node.ctx, ast.Store):
+                        self.assertIsInstance(node.value, ast.Name, name)
+        # No name is both, in whatever class; and what is read is assigned somewhere.
+        self.assertEqual(methods & assigned, set())
+        self.assertEqual(read - methods - assigned - set(METHODS), set())
+        self.assertEqual(assigned & set(METHODS), set())
+
+    def test_what_is_equal(self):
+        for name, tree in self.trees():
+            for node in ast.walk(tree):
+                if isinstance(node, ast.FunctionDef) and node.name == "__eq__":
+                    self.assertEqual(len(node.body), 2, name)
+                    told = ast.unparse(node.body[1])
+                    self.assertRegex(told, r"\Areturn isinstance\(other, \w+\)( and \(?self\.(\w+) == other\.\2\)?)+\Z")
+
     def test_what_is_looped_over_is_not_changed(self):
         for name, tree in self.trees():
             for loop in [node for node in ast.walk(tree) if isinstance(node, ast.For)]:
@@ -262,9 +328,17 @@ class TestInterface(unittest.TestCase):
                 if inspect.isclass(thing):
                     expected = (["self"] + arguments.split(", ")) if arguments else []
                     given = list(inspect.signature(thing.__init__).parameters) if "__init__" in vars(thing) else []
-                    self.assertEqual(given, expected, name)
+                    self.assertEqual(given or ["self"], expected or ["self"], name)
                 else:
                     self.assertEqual(list(inspect.signature(thing).parameters), arguments.split(", "), name)
+
+    def test_methods(self):
+        for (file, name), told in METHODS_OF.items():
+            thing = getattr(importlib.import_module("hownarrow." + file), name)
+            for method, arguments in re.findall(r"(\w+)\(([^)]*)\)", told):
+                self.assertIn(method, vars(thing), (name, method))
+                given = list(inspect.signature(vars(thing)[method]).parameters)
+                self.assertEqual(given, ["self"] + (arguments.split(", ") if arguments else []), (name, method))
 
 
 if __name__ == "__main__":
