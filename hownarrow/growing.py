@@ -5,7 +5,7 @@ from hownarrow.pictures import led
 from hownarrow.traces import are_surely_more
 
 # Asked for fewer PICTURES it would take longer than it spares.
-ASKED_AT = 400
+ASKED_AT = 200
 # Where (A, B) stands, "l" makes (A, A THEN B) of it, "r" (B THEN A, B); "L" and "R" undo them. Worked
 # out, "lRl" and "RlR" make the same of it: (B undone, B undone THEN A THEN B). So from each PICTURE
 # six steps come round, and where five are known they tell the sixth: these are the ways to go instead.

@@ -70,7 +70,8 @@ class Choices:
         if many == 0:
             return 0
         if (mark, many) not in self.values_met:
-            worth = max([gain - self.best_at(after, many - 1) for gain, after in self.gains_at(mark)])
+            choices = list(self.gains_at(mark))
+            worth = max([gain - self.best_at(after, many - 1) for gain, after in choices])
             self.values_met[(mark, many)] = worth
         return self.values_met[(mark, many)]
 
